@@ -9,7 +9,8 @@ import (
 )
 
 // deepest is how many parts may be nested in one another at all. What is
-// deeper is left as it is, so that a value that holds itself is copied, too.
+// deeper is left as it is, so that copying a value that holds itself (once)
+// ends, too.
 const deepest = 1 << 16
 
 // sound tells whether a value, with so many lists and objects around it, is what some text is.
